@@ -1,0 +1,1 @@
+"""The hull: one boat in all views."""
