@@ -6,9 +6,11 @@ MAKE = 1
 AT = 2
 NEAR = 3
 BEVEL = 4
+INSIDE = 5
+FRAME = 6
 
 ROWS_OF_MAKE = 3
-NUMBERS_OF_CALL = {2: 3, 3: 2, 4: 2}
+NUMBERS_OF_CALL = {2: 3, 3: 2, 4: 2, 5: 3, 6: 2, 7: 1}
 
 
 def rows_behind(calls, start, count):
@@ -44,7 +46,11 @@ def answer(boat, number, given):
         return boat.near(given[0], given[1])
     if number == BEVEL:
         return boat.bevel(given[0], given[1])
-    return None
+    if number == INSIDE:
+        return boat.inside(given[0], given[1], given[2])
+    if number == FRAME:
+        return boat.frame(given[0], given[1])
+    return boat.level(given[0])
 
 
 def answers(calls):

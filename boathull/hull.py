@@ -1,6 +1,8 @@
-"""The hull that a good table tells: its half-breadth and its two slopes."""
+"""The hull that a good table tells, and its views across and along."""
 
 from boathull.batten import Batten, Ground
+from boathull.quotient import nearest
+from boathull.section import Section
 
 
 def level_rows(halves, stations):
@@ -8,36 +10,34 @@ def level_rows(halves, stations):
     return [halves[first:first + stations] for first in range(0, len(halves), stations)]
 
 
-class Hull:
-    """A table's level battens, and the heights that battens up are laid over.
+def station_rows(halves, stations):
+    """The half-breadths sorted into one row for each station."""
+    return [halves[first::stations] for first in range(stations)]
 
-    Half-breadth and slopes are told as two whole numbers, the quotient's, not in lowest terms.
-    """
+
+class Hull:
+    """A table's battens along its levels and up its stations."""
 
     def __init__(self, places, heights, halves):
         self.along = Ground(places)
         self.upward = Ground(heights)
         self.levels = [Batten(self.along, row) for row in level_rows(halves, len(places))]
+        self.stations = [Batten(self.upward, row) for row in station_rows(halves, len(places))]
 
-    def holds_point(self, x, z):
-        return self.along.holds(x) and self.upward.holds(z)
+    def section(self, x):
+        return Section(self.levels, self.upward, x)
 
-    def divisor(self, x, z):
-        return self.along.divisor_at(x) * self.upward.divisor_at(z)
+    def frame(self, x, t):
+        """For each level, from the lowest, the half-breadth within planks of thickness t, and the bevel."""
+        section = self.section(x)
+        told = []
+        for height in self.upward.places:
+            told.append(section.inside(height, t))
+            told.append(section.bevel(height))
+        return told
 
-    def batten_up(self, x):
-        """The batten up through what the level battens tell at x."""
-        return Batten(self.upward, [level.value_at(x) for level in self.levels])
-
-    def batten_up_of_slopes(self, x):
-        """The batten up through the level battens' slopes at x."""
-        return Batten(self.upward, [level.slope_at(x) for level in self.levels])
-
-    def half_breadth(self, x, z):
-        return (self.batten_up(x).value_at(z), self.divisor(x, z))
-
-    def slope_along(self, x, z):
-        return (self.batten_up_of_slopes(x).value_at(z), self.divisor(x, z))
-
-    def slope_up(self, x, z):
-        return (self.batten_up(x).slope_at(z), self.divisor(x, z))
+    def level(self, z):
+        """For each station the half-breadth at z, to the nearest whole number."""
+        # At a station the level battens tell the table's own numbers, so its own batten is the one up.
+        under = self.upward.divisor_at(z)
+        return [nearest(station.value_at(z), under) for station in self.stations]

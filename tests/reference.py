@@ -29,6 +29,18 @@ def bevel(x, z):
     return [4, x, z]
 
 
+def inside(x, z, t):
+    return [5, x, z, t]
+
+
+def frame(x, t):
+    return [6, x, t]
+
+
+def level(z):
+    return [7, z]
+
+
 def ask(*calls):
     """Each call's answer, as a list of lists."""
     told = answers([number for call in calls for number in call])
@@ -119,6 +131,41 @@ class ReferenceHull:
         values = [cubic_at(self.first, cubics, first, what == first_slope) for cubics in self.cubics]
         across = cubics_of(self.second, [values])[0]
         return cubic_at(self.second, across, second, what == 3 - first_slope)
+
+    def inside(self, x, z, t):
+        return nearest_within(self.tell(x, z, 0), self.tell(x, z, 1), self.tell(x, z, 2), t)
+
+    def frame(self, x, t):
+        heights = self.first if self.turned else self.second
+        pairs = [(self.inside(x, z, t), round(192 * self.tell(x, z, 1))) for z in heights]
+        return [number for pair in pairs for number in pair]
+
+    def level(self, z):
+        places = self.second if self.turned else self.first
+        return [round(self.tell(x, z, 0)) for x in places]
+
+
+def nearest_within(half, along, up, t):
+    """Found by halving: squares of fractions are compared and no root is drawn."""
+    square = t * t * (1 + along ** 2 + up ** 2)
+
+    def reaches(number):
+        return half >= number and (half - number) ** 2 >= square
+
+    low, high = -1, 1
+    while not reaches(low):
+        low *= 2
+    while reaches(high):
+        high *= 2
+    while high - low > 1:
+        middle = (low + high) // 2
+        low, high = (middle, high) if reaches(middle) else (low, middle)
+    halfway = low + Fraction(1, 2)
+    if not reaches(halfway):
+        return low
+    if (half - halfway) ** 2 == square and low % 2 == 0:
+        return low
+    return high
 
 
 def as_answer(quotient):
